@@ -1,0 +1,1 @@
+"""Crossparity: drawings of graphs, recorded by the parity of their crossings."""

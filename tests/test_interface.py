@@ -1,0 +1,59 @@
+import inspect
+import pathlib
+import subprocess
+import sys
+import unittest
+
+from crossparity import carries, errors, graphs
+from tests import samples
+
+ROOT = pathlib.Path(__file__).resolve().parent.parent
+
+ARGUMENTS = {
+    (graphs, "Graph"): ["vertices", "edges"],
+    (graphs, "pairs"): ["graph"],
+    (carries, "flipped"): ["graph", "carry"],
+    (carries, "carried"): ["graph", "record", "carries"],
+    (carries, "convex"): ["graph", "order"],
+    (errors, "NoGraph"): ["why"],
+    (errors, "NoRecord"): ["at"],
+    (errors, "NoCarry"): ["at"],
+    (errors, "NoDrawing"): ["why"],
+    (errors, "NoEdge"): ["edge"],
+    (errors, "NotDrawable"): ["witness"],
+}
+
+
+class InterfaceTest(unittest.TestCase):
+    def test_names_and_arguments(self):
+        for (module, name), arguments in ARGUMENTS.items():
+            with self.subTest(name):
+                self.assertEqual(list(inspect.signature(getattr(module, name)).parameters), arguments)
+
+    def test_each_module_is_imported_alone(self):
+        for path in sorted((ROOT / "crossparity").glob("*.py")):
+            name = "crossparity" if path.stem == "__init__" else f"crossparity.{path.stem}"
+            with self.subTest(name):
+                subprocess.run([sys.executable, "-c", f"import {name}"], cwd=ROOT, check=True)
+
+    def test_equality_stands_in_the_class_itself(self):
+        self.assertIn("__eq__", vars(graphs.Graph))
+
+
+class RepeatedCallsTest(unittest.TestCase):
+    def test_equal_arguments_give_equal_results_in_lists_of_their_own(self):
+        for graph in samples.graphs(seeds=1):
+            again = graphs.Graph(list(graph.vertices), list(graph.edges))
+            record = samples.pairs_by_definition(graph)
+            calls = [lambda g: graphs.pairs(g), lambda g: carries.convex(g, g.vertices)]
+            calls.append(lambda g: carries.carried(g, record, []))
+            for call in calls:
+                first, second = call(graph), call(again)
+                self.assertEqual(first, second)
+                first.append(None)
+                self.assertEqual(call(graph), second)
+
+    def test_results_are_valid_arguments(self):
+        for graph in samples.graphs(seeds=1):
+            for record in [graphs.pairs(graph), carries.convex(graph, graph.vertices)]:
+                self.assertEqual(carries.carried(graph, record, []), record)

@@ -1,0 +1,175 @@
+"""Those rules of ../shared/LANGUAGE.md that a look at the syntax can check, for every file of the package."""
+
+import ast
+import pathlib
+import re
+import unittest
+
+PACKAGE = pathlib.Path(__file__).resolve().parent.parent / "crossparity"
+
+BUILTINS = set(
+    """len range enumerate zip min max sum abs sorted reversed int str bool bytes list tuple dict set frozenset
+    isinstance ord repr any all divmod Exception ValueError TypeError KeyError IndexError LookupError
+    ZeroDivisionError ArithmeticError OverflowError RuntimeError NotImplementedError AttributeError StopIteration
+    NotImplemented iter next super property staticmethod classmethod""".split()
+)
+METHODS = set(
+    """append clear copy count endswith extend find get index insert isalnum isalpha isdigit islower isspace isupper
+    items join keys ljust lower lstrip partition pop remove replace reverse rfind rjust rpartition rsplit rstrip
+    setdefault split splitlines startswith strip update upper values zfill bit_length add discard""".split()
+)
+DUNDERS = set("__init__ __eq__ __repr__ __str__ __len__ __iter__".split())
+BARRED_NODES = (
+    ast.Global, ast.AsyncFunctionDef, ast.AsyncFor, ast.AsyncWith, ast.Await, ast.Import, ast.Div, ast.MatMult,
+    ast.GeneratorExp,
+)
+BARRED_WORDS = set(
+    """type typing typing_extensions enum Enum IntEnum StrEnum Flag IntFlag Generic Protocol ABC ABCMeta namedtuple
+    NamedTuple TypedDict TYPE_CHECKING abstractmethod""".split()
+)
+BARRED_NAMES = set(
+    """register mro elements open input version_info with_traceback add_note attrgetter breakpoint builtins compile
+    copyright credits delattr dir eval exec exit gc getattr globals hasattr help id importlib license locals
+    methodcaller os quit setattr type vars""".split()
+)
+
+
+def files():
+    return sorted(PACKAGE.glob("*.py"))
+
+
+def tree_of(path):
+    return ast.parse(path.read_text(), str(path))
+
+
+def nodes(kind):
+    """All nodes of a kind in the package, each with a place to report."""
+    for path in files():
+        for node in ast.walk(tree_of(path)):
+            if isinstance(node, kind):
+                yield f"{path.name}:{getattr(node, 'lineno', 0)}", node
+
+
+def bound_names(tree):
+    """All names that a file binds, at any level."""
+    bound = set()
+    for node in ast.walk(tree):
+        if isinstance(node, ast.Name) and not isinstance(node.ctx, ast.Load):
+            bound.add(node.id)
+        elif isinstance(node, (ast.FunctionDef, ast.ClassDef)):
+            bound.add(node.name)
+        elif isinstance(node, ast.arg):
+            bound.add(node.arg)
+        elif isinstance(node, ast.alias):
+            bound.add(node.asname or node.name)
+        elif isinstance(node, ast.ExceptHandler) and node.name:
+            bound.add(node.name)
+    return bound
+
+
+class FilesTest(unittest.TestCase):
+    def test_the_folder_contains_only_plain_files(self):
+        for path in PACKAGE.iterdir():
+            if path.name != "__pycache__":
+                self.assertRegex(path.name, r"^(__init__|[a-z][a-z0-9_]*)\.py$")
+        self.assertTrue((PACKAGE / "__init__.py").is_file())
+
+    def test_size_and_characters(self):
+        for path in files():
+            text = path.read_text()
+            lines = text.split("\n")
+            self.assertLessEqual(len(lines), 400, path.name)
+            for at, line in enumerate(lines, start=1):
+                self.assertLessEqual(len(line), 120, f"{path.name}:{at}")
+                self.assertRegex(line, r"^[ -~]*$", f"{path.name}:{at}")
+
+    def test_words(self):
+        for path in files():
+            words = set(re.findall(r"\w+", path.read_text()))
+            self.assertEqual(words & BARRED_WORDS, set(), path.name)
+
+    def test_functions_are_short(self):
+        for place, node in nodes(ast.FunctionDef):
+            self.assertLessEqual(node.end_lineno - node.lineno + 1, 40, place)
+
+
+class ModuleLevelTest(unittest.TestCase):
+    def test_statements(self):
+        for path in files():
+            for at, node in enumerate(tree_of(path).body):
+                docstring = at == 0 and isinstance(node, ast.Expr) and isinstance(node.value, ast.Constant)
+                plain = (ast.ImportFrom, ast.FunctionDef, ast.ClassDef, ast.Assign)
+                self.assertTrue(docstring or isinstance(node, plain), f"{path.name}:{node.lineno}")
+
+    def test_each_name_is_bound_once(self):
+        for path in files():
+            names = []
+            for node in tree_of(path).body:
+                if isinstance(node, ast.ImportFrom):
+                    names += [alias.asname or alias.name for alias in node.names]
+                elif isinstance(node, (ast.FunctionDef, ast.ClassDef)):
+                    names.append(node.name)
+                elif isinstance(node, ast.Assign):
+                    names += [target.id for target in node.targets]
+            self.assertEqual(len(names), len(set(names)), path.name)
+
+    def test_imports_name_the_file_that_defines_the_name(self):
+        for place, node in nodes(ast.ImportFrom):
+            self.assertEqual(node.level, 0, place)
+            self.assertRegex(node.module, r"^crossparity\.[a-z0-9_]+$", place)
+            source = tree_of(PACKAGE / (node.module.split(".")[1] + ".py"))
+            kinds = (ast.FunctionDef, ast.ClassDef)
+            defined = {item.name for item in source.body if isinstance(item, kinds)}
+            defined |= {item.targets[0].id for item in source.body if isinstance(item, ast.Assign)}
+            for alias in node.names:
+                self.assertIn(alias.name, defined, place)
+
+
+class SyntaxTest(unittest.TestCase):
+    def test_barred_syntax(self):
+        for place, node in nodes(BARRED_NODES):
+            self.fail(f"{place}: {type(node).__name__}")
+
+    def test_classes_stand_at_module_level_and_have_no_decorators(self):
+        for place, node in nodes((ast.FunctionDef, ast.ClassDef)):
+            self.assertEqual(node.decorator_list, [], place)
+            inner = [item for item in ast.walk(node) if isinstance(item, ast.ClassDef) and item != node]
+            self.assertEqual(inner, [], place)
+
+    def test_names(self):
+        for path in files():
+            for name in bound_names(tree_of(path)):
+                if name not in DUNDERS:
+                    self.assertRegex(name, r"^[A-Za-z][A-Za-z0-9_]*$", path.name)
+                    self.assertNotIn(name, BUILTINS | BARRED_NAMES, path.name)
+
+    def test_builtins(self):
+        for path in files():
+            tree = tree_of(path)
+            known = bound_names(tree) | BUILTINS
+            for node in ast.walk(tree):
+                if isinstance(node, ast.Name):
+                    self.assertIn(node.id, known, f"{path.name}:{node.lineno}")
+
+    def test_methods_that_are_called(self):
+        own = {node.name for place, node in nodes(ast.FunctionDef)}
+        for place, node in nodes(ast.Call):
+            if isinstance(node.func, ast.Attribute):
+                self.assertIn(node.func.attr, METHODS | own, place)
+
+    def test_constants(self):
+        for place, node in nodes(ast.Constant):
+            self.assertNotIsInstance(node.value, (float, complex), place)
+            if isinstance(node.value, str):
+                self.assertNotIn("%", node.value, place)
+
+    def test_is(self):
+        for place, node in nodes(ast.Compare):
+            for sign, right in zip(node.ops, node.comparators):
+                if isinstance(sign, (ast.Is, ast.IsNot)):
+                    self.assertTrue(isinstance(right, ast.Constant) and right.value in (None, True, False), place)
+
+    def test_raise_creates_its_error_on_the_spot(self):
+        for place, node in nodes(ast.Raise):
+            on_the_spot = isinstance(node.exc, ast.Call) and isinstance(node.exc.func, ast.Name)
+            self.assertTrue(node.exc is None or on_the_spot, place)
