@@ -12,6 +12,12 @@ def is_carry(graph, value):
     return is_edge(graph, edge) and is_among(graph.vertices, vertex) and vertex not in edge
 
 
+def every_carry(graph):
+    """Return the sorted list of all carries of the graph."""
+    vertices = sorted(graph.vertices)
+    return [(edge, vertex) for edge in graph.edges for vertex in vertices if vertex not in edge]
+
+
 def check_carries(graph, value):
     """Raise NoCarry unless a value is a row of carries of the graph."""
     if not is_row(value):

@@ -108,3 +108,12 @@ def check_record(graph, value):
         if not is_pair(graph, pair) or pair in seen:
             raise NoRecord(at)
         seen.add(pair)
+
+
+def is_record(graph, value):
+    """Tell whether a value of any kind is a record of the graph."""
+    try:
+        check_record(graph, value)
+    except NoRecord:
+        return False
+    return True

@@ -7,29 +7,10 @@ from crossparity.carries import carried, convex, flipped
 from crossparity.errors import NoCarry, NoOrder, NoRecord
 from crossparity.graphs import Graph, pairs
 from tests import samples
+from tests.samples import carried_by_definition, every_carry, flipped_by_definition, some_carries, some_record
 
 SQUARE = samples.SQUARE
 CARRY = (("a", "c"), "b")
-
-
-def every_carry(graph):
-    return [(edge, vertex) for edge in graph.edges for vertex in graph.vertices if vertex not in edge]
-
-
-def flipped_by_definition(graph, carry):
-    edge, vertex = carry
-    flips = []
-    for one, other in samples.pairs_by_definition(graph):
-        if (one == edge and vertex in other) or (other == edge and vertex in one):
-            flips.append((one, other))
-    return flips
-
-
-def carried_by_definition(graph, record, carries):
-    held = set(record)
-    for carry in carries:
-        held ^= set(flipped_by_definition(graph, carry))
-    return sorted(held)
 
 
 def side(a, b, c):
@@ -46,19 +27,6 @@ def convex_by_drawing(graph, order):
         if side(a, b, c) != side(a, b, d) and side(c, d, a) != side(c, d, b):
             found.append(pair)
     return found
-
-
-def some_record(graph, seed):
-    choice = random.Random(f"{graph.vertices} {graph.edges} {seed}")
-    every = samples.pairs_by_definition(graph)
-    return choice.sample(every, choice.randint(0, len(every)))
-
-
-def some_carries(graph, seed, many=30):
-    """A row of carries in which some stand several times; empty if the graph has no carries."""
-    choice = random.Random(f"{graph.vertices} {graph.edges} {seed}")
-    every = every_carry(graph)
-    return choice.choices(every, k=many) + every[:2] * 2 if every else []
 
 
 def wrong_edges():

@@ -4,7 +4,7 @@ import subprocess
 import sys
 import unittest
 
-from crossparity import carries, errors, graphs
+from crossparity import carries, drawings, errors, graphs, leads, witnesses
 from tests import samples
 
 ROOT = pathlib.Path(__file__).resolve().parent.parent
@@ -15,6 +15,15 @@ ARGUMENTS = {
     (carries, "flipped"): ["graph", "carry"],
     (carries, "carried"): ["graph", "record", "carries"],
     (carries, "convex"): ["graph", "order"],
+    (witnesses, "is_witness"): ["graph", "record"],
+    (witnesses, "charge"): ["graph", "record", "witness"],
+    (leads, "leading"): ["graph", "one", "other"],
+    (leads, "drawable"): ["graph", "record"],
+    (leads, "count"): ["graph"],
+    (leads, "judge_leading"): ["graph", "one", "other", "told"],
+    (drawings, "Drawing"): ["graph", "points", "lines"],
+    (drawings, "crossings"): ["drawing", "one", "other"],
+    (drawings, "record_of"): ["drawing"],
     (errors, "NoGraph"): ["why"],
     (errors, "NoRecord"): ["at"],
     (errors, "NoCarry"): ["at"],
@@ -38,6 +47,7 @@ class InterfaceTest(unittest.TestCase):
 
     def test_equality_stands_in_the_class_itself(self):
         self.assertIn("__eq__", vars(graphs.Graph))
+        self.assertIn("__eq__", vars(drawings.Drawing))
 
 
 class RepeatedCallsTest(unittest.TestCase):
@@ -47,6 +57,9 @@ class RepeatedCallsTest(unittest.TestCase):
             record = samples.pairs_by_definition(graph)
             calls = [lambda g: graphs.pairs(g), lambda g: carries.convex(g, g.vertices)]
             calls.append(lambda g: carries.carried(g, record, []))
+            calls.append(lambda g: leads.leading(g, [], record)[1])
+            calls.append(lambda g: leads.drawable(g, record)[1])
+            calls.append(lambda g: drawings.record_of(samples.some_drawing(g, "again", bends=1)))
             for call in calls:
                 first, second = call(graph), call(again)
                 self.assertEqual(first, second)
@@ -55,5 +68,10 @@ class RepeatedCallsTest(unittest.TestCase):
 
     def test_results_are_valid_arguments(self):
         for graph in samples.graphs(seeds=1):
-            for record in [graphs.pairs(graph), carries.convex(graph, graph.vertices)]:
+            drawing = samples.some_drawing(graph, "valid", bends=1)
+            self.assertEqual(drawings.Drawing(drawing.graph, drawing.points, drawing.lines), drawing)
+            records = [graphs.pairs(graph), carries.convex(graph, graph.vertices), drawings.record_of(drawing)]
+            for record in records:
                 self.assertEqual(carries.carried(graph, record, []), record)
+                told = leads.drawable(graph, record)
+                self.assertEqual(leads.judge_leading(graph, records[1], record, told), "right")

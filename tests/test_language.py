@@ -67,6 +67,11 @@ def bound_names(tree):
     return bound
 
 
+def imported_names(tree):
+    imports = [node for node in ast.walk(tree) if isinstance(node, ast.ImportFrom)]
+    return {alias.asname or alias.name for node in imports for alias in node.names}
+
+
 class FilesTest(unittest.TestCase):
     def test_the_folder_contains_only_plain_files(self):
         for path in PACKAGE.iterdir():
@@ -125,6 +130,33 @@ class ModuleLevelTest(unittest.TestCase):
                 self.assertIn(alias.name, defined, place)
 
 
+    def test_no_two_files_import_from_each_other(self):
+        needs = {}
+        for path in files():
+            imports = [node for node in tree_of(path).body if isinstance(node, ast.ImportFrom)]
+            needs[path.stem] = {node.module.split(".")[1] for node in imports}
+        while needs:
+            free = [name for name in needs if not needs[name] & set(needs)]
+            self.assertNotEqual(free, [], f"these import from each other: {sorted(needs)}")
+            for name in free:
+                del needs[name]
+
+    def test_every_import_is_used(self):
+        for path in files():
+            tree = tree_of(path)
+            used = {node.id for node in ast.walk(tree) if isinstance(node, ast.Name)}
+            self.assertEqual(imported_names(tree) - used, set(), path.name)
+
+    def test_no_inner_name_is_that_of_a_class_or_an_import(self):
+        for path in files():
+            tree = tree_of(path)
+            outer = imported_names(tree) | {node.name for node in tree.body if isinstance(node, ast.ClassDef)}
+            for node in ast.walk(tree):
+                if isinstance(node, ast.FunctionDef):
+                    inner = bound_names(node) - {node.name}
+                    self.assertEqual(inner & outer, set(), f"{path.name}:{node.lineno}")
+
+
 class SyntaxTest(unittest.TestCase):
     def test_barred_syntax(self):
         for place, node in nodes(BARRED_NODES):
@@ -162,6 +194,12 @@ class SyntaxTest(unittest.TestCase):
             self.assertNotIsInstance(node.value, (float, complex), place)
             if isinstance(node.value, str):
                 self.assertNotIn("%", node.value, place)
+
+    def test_powers_have_a_literal_exponent(self):
+        for place, node in nodes(ast.BinOp):
+            if isinstance(node.op, ast.Pow):
+                self.assertIsInstance(node.right, ast.Constant, place)
+                self.assertIn(node.right.value, range(65), place)
 
     def test_is(self):
         for place, node in nodes(ast.Compare):
