@@ -34,13 +34,19 @@ def is_order(graph, value):
     return all([is_among(graph.vertices, vertex) for vertex in value]) and len(set(value)) == len(value)
 
 
+def flips_of(graph, carry):
+    """Return the sorted list of the pairs that a carry, known to be one, flips."""
+    edge, vertex = carry
+    crossed = [other for other in graph.edges if vertex in other and are_apart(edge, other)]
+    # The edges are sorted, so the pairs with smaller ones come first, and all are in ascending order.
+    return [(other, edge) if other < edge else (edge, other) for other in crossed]
+
+
 def flipped(graph, carry):
     """Return the sorted list of the pairs that a carry flips."""
     if not is_carry(graph, carry):
         raise NoCarry(0)
-    edge, vertex = carry
-    crossed = [other for other in graph.edges if vertex in other and are_apart(edge, other)]
-    return sorted([tuple(sorted([edge, other])) for other in crossed])
+    return flips_of(graph, carry)
 
 
 def carried(graph, record, carries):
@@ -51,7 +57,7 @@ def carried(graph, record, carries):
     for pair in record:
         held[pair] = True
     for carry in carries:
-        for pair in flipped(graph, carry):
+        for pair in flips_of(graph, carry):
             held[pair] = not held[pair]
     return [pair for pair in pairs(graph) if held[pair]]
 

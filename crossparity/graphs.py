@@ -38,6 +38,21 @@ def pairs(graph):
     return found
 
 
+def with_edge(graph, edge):
+    """Return the graph with an additional edge."""
+    return Graph(graph.vertices, [*graph.edges, edge])
+
+
+def without_edge(graph, edge):
+    """Return the graph without one of its edges."""
+    return Graph(graph.vertices, [other for other in graph.edges if other != edge])
+
+
+def neighbours(graph, vertex):
+    """Return the sorted list of the vertices that an edge joins to this one."""
+    return sorted([low if high == vertex else high for low, high in graph.edges if vertex in (low, high)])
+
+
 # The functions below take values of any kind. They ask for the kind of a value before they
 # compare or look it up, because comparing or hashing a foreign object may fail or mislead.
 

@@ -1,6 +1,7 @@
 """Carries that lead from one record to another one, or a witness that none do."""
 
-from crossparity.carries import carried, convex, every_carry, flipped, is_carry
+from crossparity.carries import carried, convex, every_carry, flips_of, is_carry
+from crossparity.errors import NotDrawable
 from crossparity.graphs import check_record, is_couple, is_record, is_row, pairs
 from crossparity.witnesses import charge, is_witness
 
@@ -52,7 +53,7 @@ def basis_of(graph):
     bits = bits_of(graph)
     basis = {}
     for at, carry in enumerate(every_carry(graph)):
-        number, recipe = reduced(basis, number_of(bits, flipped(graph, carry)), 1 << at)
+        number, recipe = reduced(basis, number_of(bits, flips_of(graph, carry)), 1 << at)
         if number != 0:
             basis = enlarged(basis, number, recipe)
     return basis
@@ -80,6 +81,14 @@ def leading(graph, one, other):
 def drawable(graph, record):
     """Return carries that lead from the convex record to a record, or a witness that none do."""
     return leading(graph, convex(graph, graph.vertices), record)
+
+
+def carries_to(graph, record):
+    """Return carries that lead from the convex record to a record; raise NotDrawable if none do."""
+    word, row = drawable(graph, record)
+    if word == "witness":
+        raise NotDrawable(row)
+    return row
 
 
 def count(graph):

@@ -1,6 +1,6 @@
 """Witnesses, which every carry leaves as they are, and the charges of records on them."""
 
-from crossparity.carries import every_carry, flipped
+from crossparity.carries import every_carry, flips_of
 from crossparity.errors import NoWitness
 from crossparity.graphs import check_record
 
@@ -13,7 +13,7 @@ def common_parity(one, other):
 def is_witness(graph, record):
     """Tell whether every carry of the graph flips an even number of the pairs of a record."""
     check_record(graph, record)
-    return all([common_parity(record, flipped(graph, carry)) == 0 for carry in every_carry(graph)])
+    return all([common_parity(record, flips_of(graph, carry)) == 0 for carry in every_carry(graph)])
 
 
 def charge(graph, record, witness):

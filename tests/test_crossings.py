@@ -1,5 +1,4 @@
 import copy
-import fractions
 import itertools
 import random
 import unittest
@@ -11,38 +10,11 @@ from crossparity.graphs import Graph, pairs
 from crossparity.leads import drawable, leading
 from crossparity.witnesses import charge
 from tests import samples
+from tests.geometry import away, cross, crossings_by_definition, path_of
 
 FAR = 10 ** 30
 TWO_EDGES = Graph(["a", "b", "c", "d"], [("a", "c"), ("b", "d")])
 CORNERS = {"a": (0, 0), "b": (4, 0), "c": (4, 4), "d": (0, 4)}
-
-
-def path_of(drawing, edge):
-    return [drawing.points[edge[0]], *drawing.lines[edge], drawing.points[edge[1]]]
-
-
-def cross(one, other):
-    return one[0] * other[1] - one[1] * other[0]
-
-
-def away(start, end):
-    return end[0] - start[0], end[1] - start[1]
-
-
-def meet(a, b, c, d):
-    """Whether two segments of a drawing cross: where the lines meet, as fractions of both segments."""
-    turn = cross(away(a, b), away(c, d))
-    if turn == 0:
-        return False
-    first = fractions.Fraction(cross(away(a, c), away(c, d)), turn)
-    second = fractions.Fraction(cross(away(a, c), away(a, b)), turn)
-    return 0 < first < 1 and 0 < second < 1
-
-
-def crossings_by_definition(drawing, one, other):
-    first, second = path_of(drawing, one), path_of(drawing, other)
-    found = itertools.product(zip(first, first[1:]), zip(second, second[1:]))
-    return sum(meet(*start, *end) for start, end in found)
 
 
 def is_inside(place, corners):

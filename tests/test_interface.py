@@ -4,7 +4,7 @@ import subprocess
 import sys
 import unittest
 
-from crossparity import carries, drawings, errors, graphs, leads, witnesses
+from crossparity import carries, drawings, errors, fewest, graphs, leads, planes, sketches, witnesses
 from tests import samples
 
 ROOT = pathlib.Path(__file__).resolve().parent.parent
@@ -24,6 +24,12 @@ ARGUMENTS = {
     (drawings, "Drawing"): ["graph", "points", "lines"],
     (drawings, "crossings"): ["drawing", "one", "other"],
     (drawings, "record_of"): ["drawing"],
+    (sketches, "draw"): ["graph", "record"],
+    (planes, "flat"): ["graph"],
+    (planes, "judge_flat"): ["graph", "told"],
+    (fewest, "fewest"): ["graph", "most"],
+    (fewest, "restricted"): ["graph", "record", "edges"],
+    (fewest, "extended"): ["graph", "record", "edge"],
     (errors, "NoGraph"): ["why"],
     (errors, "NoRecord"): ["at"],
     (errors, "NoCarry"): ["at"],
@@ -75,3 +81,8 @@ class RepeatedCallsTest(unittest.TestCase):
                 self.assertEqual(carries.carried(graph, record, []), record)
                 told = leads.drawable(graph, record)
                 self.assertEqual(leads.judge_leading(graph, records[1], record, told), "right")
+                part, rest = fewest.restricted(graph, record, graph.edges[1:])
+                self.assertEqual(fewest.restricted(part, rest, part.edges), (part, rest))
+            again = sketches.draw(graph, drawings.record_of(drawing))
+            self.assertEqual(drawings.Drawing(again.graph, again.points, again.lines), again)
+            self.assertEqual(planes.judge_flat(graph, planes.flat(graph)), "right")

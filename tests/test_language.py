@@ -1,6 +1,7 @@
 """Those rules of ../shared/LANGUAGE.md that a look at the syntax can check, for every file of the package."""
 
 import ast
+import builtins
 import pathlib
 import re
 import unittest
@@ -173,7 +174,7 @@ class SyntaxTest(unittest.TestCase):
             for name in bound_names(tree_of(path)):
                 if name not in DUNDERS:
                     self.assertRegex(name, r"^[A-Za-z][A-Za-z0-9_]*$", path.name)
-                    self.assertNotIn(name, BUILTINS | BARRED_NAMES, path.name)
+                    self.assertNotIn(name, set(dir(builtins)) | BARRED_NAMES, path.name)
 
     def test_builtins(self):
         for path in files():
@@ -211,3 +212,80 @@ class SyntaxTest(unittest.TestCase):
         for place, node in nodes(ast.Raise):
             on_the_spot = isinstance(node.exc, ast.Call) and isinstance(node.exc.func, ast.Name)
             self.assertTrue(node.exc is None or on_the_spot, place)
+
+    def test_only_own_errors_and_plain_ones_are_caught(self):
+        own = {node.name for place, node in nodes(ast.ClassDef)}
+        for place, node in nodes(ast.ExceptHandler):
+            self.assertIsInstance(node.type, ast.Name, place)
+            self.assertIn(node.type.id, own | {"KeyError", "ZeroDivisionError"}, place)
+
+    def test_escapes(self):
+        for path in files():
+            self.assertEqual(re.findall(r"\\[^nt\\'\"]", path.read_text()), [], path.name)
+
+    def test_comprehensions_are_short_and_stand_in_functions(self):
+        for place, node in nodes((ast.ListComp, ast.DictComp, ast.SetComp)):
+            self.assertLessEqual(len(node.generators), 6, place)
+            self.assertLessEqual(sum(len(part.ifs) for part in node.generators), 12, place)
+        for path in files():
+            for node in tree_of(path).body:
+                if not isinstance(node, (ast.FunctionDef, ast.ClassDef)):
+                    inner = [item for item in ast.walk(node) if isinstance(item, (ast.ListComp, ast.DictComp))]
+                    self.assertEqual(inner, [], f"{path.name}:{node.lineno}")
+
+
+def called(node, names):
+    """Whether a node calls a builtin, or a method, of one of these names."""
+    if not isinstance(node, ast.Call):
+        return False
+    plain = isinstance(node.func, ast.Name) and node.func.id in names
+    return plain or (isinstance(node.func, ast.Attribute) and node.func.attr in names)
+
+
+def with_parents(path):
+    """Each node of a file with the one that it stands in."""
+    for node in ast.walk(tree_of(path)):
+        for inner in ast.iter_child_nodes(node):
+            yield inner, node
+
+
+class PlacesTest(unittest.TestCase):
+    """Where iterators and sets may stand."""
+
+    def test_iterators_are_iterated_at_once(self):
+        once = "zip enumerate reversed range items keys values".split()
+        around = "list tuple dict sorted sum any all enumerate zip min max".split()
+        for path in files():
+            for node, parent in with_parents(path):
+                if called(node, once):
+                    looped = isinstance(parent, (ast.For, ast.comprehension)) and parent.iter == node
+                    tested = isinstance(parent, ast.Compare) and isinstance(parent.ops[-1], (ast.In, ast.NotIn))
+                    self.assertTrue(looped or tested or called(parent, around), f"{path.name}:{node.lineno}")
+
+    def is_set(self, node):
+        return isinstance(node, (ast.Set, ast.SetComp)) or (isinstance(node, ast.Call) and called(node, ["set"]))
+
+    def test_sets_stand_where_they_may(self):
+        for path in files():
+            for node, parent in with_parents(path):
+                if self.is_set(node):
+                    stored = isinstance(parent, ast.Assign) and len(parent.targets) == 1
+                    joined = isinstance(parent, ast.BinOp) and self.is_set(parent.left) and self.is_set(parent.right)
+                    place = f"{path.name}:{node.lineno}"
+                    self.assertTrue(stored or joined or called(parent, ["len", "sorted"]), place)
+
+    def stored_sets(self, function):
+        assigned = [node for node in ast.walk(function) if isinstance(node, ast.Assign)]
+        return [node.targets[0].id for node in assigned if self.is_set(node.value)]
+
+    def test_stored_sets_are_only_added_to_and_asked(self):
+        for path in files():
+            for function in [node for node in tree_of(path).body if isinstance(node, ast.FunctionDef)]:
+                names = self.stored_sets(function)
+                self.assertEqual(len(names), len(set(names)), f"{path.name}:{function.lineno}")
+                for parent in ast.walk(function):
+                    for node in ast.iter_child_nodes(parent):
+                        if isinstance(node, ast.Name) and node.id in names and isinstance(node.ctx, ast.Load):
+                            added = isinstance(parent, ast.Attribute) and parent.attr in ["add", "discard"]
+                            asked = isinstance(parent, ast.Compare) or called(parent, ["len", "sorted"])
+                            self.assertTrue(added or asked, f"{path.name}:{node.lineno}")

@@ -6,8 +6,10 @@ import unittest
 
 from crossparity.carries import carried
 from crossparity.errors import NoRecord
+from crossparity.fewest import extended, restricted
 from crossparity.graphs import Graph, pairs
 from crossparity.leads import drawable, judge_leading, leading
+from crossparity.sketches import draw
 from crossparity.witnesses import charge, is_witness
 from tests import samples
 
@@ -25,6 +27,9 @@ CALLS = {
     "drawable": lambda graph, record, behind: drawable(graph, record),
     "judge_leading": lambda graph, record, behind: judge_leading(graph, record, behind, behind),
     "judge_leading, other": lambda graph, record, behind: judge_leading(graph, [], record, behind),
+    "draw": lambda graph, record, behind: draw(graph, record),
+    "restricted": lambda graph, record, behind: restricted(graph, record, behind),
+    "extended": lambda graph, record, behind: extended(graph, record, behind),
 }
 
 
