@@ -4,12 +4,13 @@ from crossparity.drawings import Drawing
 from crossparity.leads import carries_to
 
 # All points and bends lie on the curve y = x ** 3. Three places of it are on one line exactly if
-# their x add up to 0, which three odd numbers never do: with odd x, all are in general position.
+# their x add up to 0. Here each x is above 0 or that of a far place, which is so far to the left
+# that this never happens, so that every drawing is in general position.
 #
-# The vertices have x > 0, where the curve is convex, so that straight edges have the convex record.
-# The far places are so far to the left that, seen from any of them, the places with x > 0 appear in
-# the order of their x. So a way from a far place to shortly before a vertex, to shortly behind it
-# and to another far place goes around this vertex and no other one: it pulls the edge over it.
+# Where x > 0 the curve is convex: straight edges between the vertices have the convex record. Seen
+# from any far place, the places with x > 0 appear in the order of their x. So a way from a far place
+# to shortly before a vertex, to shortly behind it and to another far place goes around this vertex
+# and no other one: it pulls the edge over it.
 STEP = 100
 FAR = 10000
 FAR_PLACES = 9
@@ -22,18 +23,18 @@ def place_at(x):
 
 def x_of_vertex(at):
     """Return the x of the vertex at this index."""
-    return STEP * (at + 1) + 1
+    return STEP * (at + 1)
 
 
 def far_place(number, visit):
     """Return the far place for this visit of the edge with this number."""
-    return place_at(-FAR - 2 * (FAR_PLACES * number + visit) - 1)
+    return place_at(-FAR - FAR_PLACES * number - visit)
 
 
 def way_around(number, at):
     """Return the bends of the edge with this number around the vertex at this index, up to a far place."""
     x = x_of_vertex(at)
-    aside = 2 * (number + 1)
+    aside = number + 1
     return [place_at(x - aside), place_at(x + aside), far_place(number, at + 1)]
 
 

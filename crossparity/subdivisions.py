@@ -22,8 +22,10 @@ def subdivision_in(graph):
     # By the theorem of Kuratowski, what is left is a subdivision, beside vertices without edges.
     thin = thinned(graph)
     branches = [vertex for vertex in thin.vertices if is_branch(thin, vertex)]
+    word = "K5" if len(branches) == 5 else "K33"
+    # Each path is walked from both of its ends.
     walks = [walk(thin, start, second) for start in branches for second in neighbours(thin, start)]
-    return "K5" if len(branches) == 5 else "K33", sorted([path for path in walks if path[0] < path[-1]])
+    return word, sorted([path for path in walks if path[0] < path[-1]])
 
 
 def ends_of(path):

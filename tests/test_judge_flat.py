@@ -212,6 +212,15 @@ class SubdivisionTest(JudgeFlatTestCase):
             found += expected == "right"
         self.assertEqual(found, 6)
 
+    def test_nine_edges_between_three_and_four_vertices(self):
+        for three, four in [("ace", "bdfg"), ("bdf", "aceg"), ("abc", "defg"), ("efg", "abcd")]:
+            graph, found = families.bipartite(three, four), 0
+            for edges in itertools.combinations(graph.edges, 9):
+                expected = "right" if len({name for edge in edges for name in edge}) == 6 else "paths"
+                self.assertEqual(judge_flat(graph, ("subdivision", "K33", edges, witness_of(edges))), expected)
+                found += expected == "right"
+            self.assertEqual(found, 4)
+
     def test_two_paths_through_one_vertex(self):
         for graph, gone, word in [(K5, [("a", "b"), ("c", "d")], "K5"), (K33, [("a", "b"), ("c", "d")], "K33")]:
             kept = [edge for edge in graph.edges if edge not in gone]
