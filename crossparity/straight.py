@@ -21,7 +21,8 @@ def is_connected(graph, vertices):
     done = 0
     while done < len(reached):
         near = neighbours(graph, reached[done])
-        reached += [vertex for vertex in near if vertex in vertices and vertex not in reached]
+        fresh = [vertex for vertex in near if vertex in vertices and vertex not in reached]
+        reached += fresh
         done += 1
     return len(reached) == len(vertices)
 

@@ -130,7 +130,6 @@ class ModuleLevelTest(unittest.TestCase):
             for alias in node.names:
                 self.assertIn(alias.name, defined, place)
 
-
     def test_no_two_files_import_from_each_other(self):
         needs = {}
         for path in files():
@@ -289,3 +288,133 @@ class PlacesTest(unittest.TestCase):
                             added = isinstance(parent, ast.Attribute) and parent.attr in ["add", "discard"]
                             asked = isinstance(parent, ast.Compare) or called(parent, ["len", "sorted"])
                             self.assertTrue(added or asked, f"{path.name}:{node.lineno}")
+
+
+CHANGES = "append clear extend insert pop remove reverse setdefault update sort add discard".split()
+
+
+def names_in(node):
+    return {item.id for item in ast.walk(node) if isinstance(item, ast.Name)}
+
+
+def base_name(node):
+    """The name that an item, a slice or an attribute is read off, or None."""
+    while isinstance(node, (ast.Subscript, ast.Attribute)):
+        node = node.value
+    return node.id if isinstance(node, ast.Name) else None
+
+
+def names_changed(statements):
+    """The names of all lists and dicts that these statements change."""
+    changed = set()
+    for node in [item for statement in statements for item in ast.walk(statement)]:
+        if isinstance(node, ast.AugAssign):
+            changed.add(base_name(node.target))
+        elif isinstance(node, ast.Subscript) and not isinstance(node.ctx, ast.Load):
+            changed.add(base_name(node))
+        elif called(node, CHANGES) and isinstance(node.func, ast.Attribute):
+            changed.add(base_name(node.func.value))
+    return changed
+
+
+class ChangesTest(unittest.TestCase):
+    """What is changed, and where."""
+
+    def test_a_loop_does_not_change_what_it_iterates_over(self):
+        for place, node in nodes(ast.For):
+            self.assertEqual(names_in(node.iter) & names_changed(node.body), set(), place)
+
+    def test_a_comprehension_changes_nothing(self):
+        for place, node in nodes((ast.ListComp, ast.DictComp, ast.SetComp)):
+            self.assertEqual(names_changed([node]), set(), place)
+
+    def test_what_is_added_to_a_list_does_not_read_that_list(self):
+        for place, node in nodes(ast.AugAssign):
+            self.assertNotIn(base_name(node.target), names_in(node.value), place)
+        for place, node in nodes(ast.Call):
+            if called(node, ["extend", "update"]):
+                given = {name for argument in node.args for name in names_in(argument)}
+                self.assertNotIn(base_name(node.func), given, place)
+
+    def test_names_of_the_module_level_are_not_changed(self):
+        for path in files():
+            tree = tree_of(path)
+            outer = imported_names(tree)
+            outer |= {node.targets[0].id for node in tree.body if isinstance(node, ast.Assign)}
+            functions = [node for node in tree.body if isinstance(node, (ast.FunctionDef, ast.ClassDef))]
+            self.assertEqual(names_changed(functions) & outer, set(), path.name)
+
+    def test_values_of_the_module_level_are_fixed(self):
+        for path in files():
+            for node in [node for node in tree_of(path).body if isinstance(node, ast.Assign)]:
+                # No list and no dict: then no function can change one, by whatever name.
+                inner = [item for item in ast.walk(node.value) if isinstance(item, (ast.List, ast.Dict, ast.Call))]
+                self.assertEqual(inner, [], f"{path.name}:{node.lineno}")
+
+    def test_comparing_two_objects_changes_nothing_and_returns(self):
+        for place, node in nodes(ast.FunctionDef):
+            if node.name == "__eq__":
+                assigned = [item for item in ast.walk(node) if isinstance(item, (ast.Assign, ast.AugAssign))]
+                self.assertEqual(assigned, [], place)
+                self.assertEqual(names_changed(node.body), set(), place)
+                self.assertIsInstance(node.body[-1], ast.Return, place)
+
+
+def parameters_of_own():
+    """The number of parameters of each own function and, without self, of each own class."""
+    many = {}
+    for path in files():
+        for node in tree_of(path).body:
+            if isinstance(node, ast.FunctionDef):
+                many[node.name] = len(node.args.args)
+            elif isinstance(node, ast.ClassDef):
+                starts = [item for item in node.body if getattr(item, "name", "") == "__init__"]
+                many[node.name] = len(starts[0].args.args) - 1 if starts else 0
+    return many
+
+
+class CallsTest(unittest.TestCase):
+    """How functions are declared and called, and what is read off objects."""
+
+    def test_parameters_are_plain(self):
+        for place, node in nodes(ast.arguments):
+            self.assertEqual((node.posonlyargs, node.kwonlyargs, node.vararg, node.kwarg), ([], [], None, None), place)
+            self.assertEqual((node.defaults, node.kw_defaults), ([], []), place)
+
+    def test_own_functions_have_different_names(self):
+        names = [node.name for path in files() for node in tree_of(path).body if isinstance(node, ast.FunctionDef)]
+        self.assertEqual(len(names), len(set(names)))
+
+    def test_calls_of_own_functions_pass_what_these_take(self):
+        many = parameters_of_own()
+        for place, node in nodes(ast.Call):
+            if isinstance(node.func, ast.Name) and node.func.id in many:
+                self.assertEqual(len(node.args), many[node.func.id], place)
+                self.assertEqual(node.keywords, [], place)
+                self.assertEqual([item for item in node.args if isinstance(item, ast.Starred)], [], place)
+
+    def test_functions_and_classes_are_called_or_stand_in_isinstance(self):
+        many = parameters_of_own()
+        for path in files():
+            for node, parent in with_parents(path):
+                own = isinstance(node, ast.Name) and node.id in set(many) | BUILTINS
+                if own and not isinstance(parent, (ast.ClassDef, ast.ExceptHandler)):
+                    place = f"{path.name}:{node.lineno}"
+                    itself = isinstance(parent, ast.Call) and parent.func == node
+                    asked = called(parent, ["isinstance"]) and parent.args[1] == node
+                    kinds = isinstance(parent, ast.Tuple) and node.id in ["list", "tuple"]
+                    self.assertTrue(itself or asked or kinds, place)
+
+    def test_attributes_that_are_read_are_assigned_by_a_class(self):
+        assigned = {node.attr for place, node in nodes(ast.Attribute) if isinstance(node.ctx, ast.Store)}
+        for path in files():
+            for node, parent in with_parents(path):
+                method = isinstance(parent, ast.Call) and parent.func == node
+                if isinstance(node, ast.Attribute) and not method:
+                    self.assertIn(node.attr, assigned, f"{path.name}:{node.lineno}")
+                    self.assertNotIn(node.attr, BARRED_NAMES | {"items", "keys", "values", "sort", "args"})
+
+    def test_attributes_are_assigned_off_self_only(self):
+        for place, node in nodes(ast.Attribute):
+            if isinstance(node.ctx, ast.Store):
+                self.assertEqual(base_name(node), "self", place)
